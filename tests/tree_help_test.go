@@ -3,6 +3,7 @@ package tests
 import (
 	"cmp"
 	"fmt"
+	"reflect"
 	"slices"
 	"strings"
 	"testing"
@@ -337,6 +338,27 @@ func copied(rungs []impl.Arm) []impl.Arm {
 		out = append(out, impl.Arm{Net: nets(arm.Net)[0], Coils: elems(arm.Coils...), Kids: copied(arm.Kids)})
 	}
 	return out
+}
+
+// whole is a value in full, with what stands behind the ends of its lists.
+func whole(of any) string { return wholeOf(reflect.ValueOf(of)) }
+
+func wholeOf(v reflect.Value) string {
+	text := ""
+	switch v.Kind() {
+	case reflect.Struct:
+		for i := range v.NumField() {
+			text += wholeOf(v.Field(i)) + ","
+		}
+	case reflect.Slice:
+		text = fmt.Sprint(v.Len(), v.Cap(), ":")
+		for i := range v.Cap() {
+			text += wholeOf(v.Slice(0, v.Cap()).Index(i)) + ";"
+		}
+	default:
+		text = fmt.Sprint(v.Int())
+	}
+	return text
 }
 
 // The reader of these tests reads the document's example as it is meant.

@@ -689,35 +689,17 @@ func TestPromise6Uses(t *testing.T) {
 
 // Nothing is written into a ladder, or behind the ends of its lists.
 func TestTreeMemory(t *testing.T) {
-	var whole func(v reflect.Value) string
-	whole = func(v reflect.Value) string {
-		switch v.Kind() {
-		case reflect.Struct:
-			text := ""
-			for i := range v.NumField() {
-				text += whole(v.Field(i)) + ","
-			}
-			return text
-		case reflect.Slice:
-			text := fmt.Sprint(v.Len(), v.Cap(), ":")
-			for i := range v.Cap() {
-				text += whole(v.Slice(0, v.Cap()).Index(i)) + ";"
-			}
-			return text
-		}
-		return fmt.Sprint(v.Int())
-	}
 	for _, bad := range []int{0, 100} {
 		m := newMaker(uint64(bad)+21, bad)
 		for range 50 {
 			a, b := copied(m.ladder(3)), copied(m.ladder(3))
-			before := whole(reflect.ValueOf(a)) + whole(reflect.ValueOf(b))
+			before := whole(a) + whole(b)
 			impl.TreeSize(a)
 			impl.TreeCheck(a)
 			impl.TreeSame(a, b)
 			impl.TreeSame(a, copied(a))
 			impl.TreeUses(a, impl.DevArg{Kind: impl.DevX})
-			if whole(reflect.ValueOf(a))+whole(reflect.ValueOf(b)) != before {
+			if whole(a)+whole(b) != before {
 				t.Errorf("a ladder was written into: %v", a)
 			}
 		}
