@@ -316,20 +316,21 @@ func (m *ladderMaker) ladder(rungs int) []impl.Arm {
 	return out
 }
 
+// copiedElem is a contact or coil in memory of its own, with room behind the end of its operands.
+func copiedElem(e impl.Elem) impl.Elem {
+	return impl.Elem{Op: e.Op, Args: append(make([]impl.DevArg, 0, len(e.Args)+2), e.Args...)}
+}
+
 // copied is a ladder in memory of its own, each list with room behind its end.
 func copied(rungs []impl.Arm) []impl.Arm {
 	elems := func(from ...impl.Elem) []impl.Elem {
-		out := make([]impl.Elem, 0, len(from)+2)
-		for _, e := range from {
-			out = append(out, impl.Elem{Op: e.Op, Args: append(make([]impl.DevArg, 0, len(e.Args)+2), e.Args...)})
-		}
-		return out
+		return append(make([]impl.Elem, 0, len(from)+2), each(from, copiedElem)...)
 	}
 	var nets func(from ...impl.Net) []impl.Net
 	nets = func(from ...impl.Net) []impl.Net {
 		out := make([]impl.Net, 0, len(from)+2)
 		for _, n := range from {
-			out = append(out, impl.Net{Kind: n.Kind, One: elems(n.One)[0], Kids: nets(n.Kids...)})
+			out = append(out, impl.Net{Kind: n.Kind, One: copiedElem(n.One), Kids: nets(n.Kids...)})
 		}
 		return out
 	}

@@ -550,17 +550,20 @@ func change(v reflect.Value, left *int) bool {
 	return false
 }
 
-// oneOff are all ladders that are one change away.
-func oneOff(rungs []impl.Arm) [][]impl.Arm {
-	var out [][]impl.Arm
+// changes are all values that are one change away.
+func changes[T any](from T, copied func(from T) T) []T {
+	var out []T
 	for n := 0; ; n++ {
-		other, left := copied(rungs), n
+		other, left := copied(from), n
 		if !change(reflect.ValueOf(&other).Elem(), &left) {
 			return out
 		}
 		out = append(out, other)
 	}
 }
+
+// oneOff are all ladders that are one change away.
+func oneOff(rungs []impl.Arm) [][]impl.Arm { return changes(rungs, copied) }
 
 // Promise 6, of a ladder and all that differ from it in one part alone.
 func TestPromise6OneOff(t *testing.T) {
