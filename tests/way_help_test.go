@@ -55,21 +55,27 @@ func slowBehind(n impl.Net) []impl.Inst {
 	return slowBegin(slowNormNet(net(impl.NetAnd, netOf("X0"), n), &dice{1}))[1:]
 }
 
-// slowTail is the tail of an arm in normal form. The words of its forks are made for all kids at once.
+// slowTail is the tail of an arm in normal form.
 func slowTail(arm impl.Arm) []impl.Inst {
 	var out []impl.Inst
 	for _, coil := range arm.Coils {
 		out = append(out, instOf("coil", coil))
 	}
-	forks := make([][]impl.Inst, len(arm.Kids))
-	if last := len(forks) - 1; last > 0 {
-		forks = slices.Repeat([][]impl.Inst{short("mrd")}, last+1)
-		forks[0], forks[last] = short("mps"), short("mpp")
-	}
+	forks := slowForks(len(arm.Kids))
 	for i, kid := range arm.Kids {
 		out = slices.Concat(out, forks[i], slowBehind(kid.Net), slowTail(kid))
 	}
 	return out
+}
+
+// slowForks is what stands ahead of each of so many kids.
+func slowForks(kids int) [][]impl.Inst {
+	forks := make([][]impl.Inst, kids)
+	if last := kids - 1; last > 0 {
+		forks = slices.Repeat([][]impl.Inst{short("mrd")}, kids)
+		forks[0], forks[last] = short("mps"), short("mpp")
+	}
+	return forks
 }
 
 // slowPlain is WayPlain, told once more, of a ladder in normal form.

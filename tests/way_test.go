@@ -242,36 +242,39 @@ func TestPromise15And16AndBehind(t *testing.T) {
 	}
 }
 
+// wayArms are rungs in writing, each with its list and its depths.
+var wayArms = []struct {
+	rung, list  string
+	bits, forks int
+}{
+	{"X0 -> out:Y0", "ld X0; coil out:Y0; end", 1, 0},
+	{"X0 -> out:Y2 set:M1 timer:T1,50 out:Y2", "ld X0; coil out:Y2; coil set:M1; coil timer:T1,50; coil out:Y2; end", 1, 0},
+	// One kid has no fork.
+	{"X0 -> out:Y0 [ X1 -> out:Y1 ]", "ld X0; coil out:Y0; and X1; coil out:Y1; end", 1, 0},
+	{"X0 -> out:Y0 [ X1 -> out:Y1 [ X2 -> out:Y2 ] ]", "ld X0; coil out:Y0; and X1; coil out:Y1; and X2; coil out:Y2; end", 1, 0},
+	{"X0 -> out:Y0 [ or( X1 X2 ) -> out:Y1 ]", "ld X0; coil out:Y0; ld X1; or X2; anb; coil out:Y1; end", 2, 0},
+	{"X0 -> out:Y0 [ not( X1 ) -> out:Y1 ]", "ld X0; coil out:Y0; ld X1; inv; anb; coil out:Y1; end", 2, 0},
+	{"X0 -> out:Y0 [ not( and( X1 X2 ) ) -> out:Y1 ]", "ld X0; coil out:Y0; ld X1; and X2; inv; anb; coil out:Y1; end", 2, 0},
+	// Two, three and more.
+	{"X0 -> [ X1 -> out:Y1 | X2 -> out:Y2 ]", "ld X0; mps; and X1; coil out:Y1; mpp; and X2; coil out:Y2; end", 1, 1},
+	{"X0 -> [ -> out:Y1 | -> out:Y2 ]", "ld X0; mps; coil out:Y1; mpp; coil out:Y2; end", 1, 1},
+	{"X0 -> out:Y0 [ X1 -> out:Y1 | X2 -> out:Y2 ]", "ld X0; coil out:Y0; mps; and X1; coil out:Y1; mpp; and X2; coil out:Y2; end", 1, 1},
+	{"X0 -> [ X1 -> out:Y1 | X2 -> out:Y2 | X3 -> out:Y3 ]", "ld X0; mps; and X1; coil out:Y1; mrd; and X2; coil out:Y2; mpp; and X3; coil out:Y3; end", 1, 1},
+	{"X0 -> [ -> out:Y1 | -> out:Y2 | -> out:Y3 | -> out:Y4 | -> out:Y5 ]", "ld X0; mps; coil out:Y1; mrd; coil out:Y2; mrd; coil out:Y3; mrd; coil out:Y4; mpp; coil out:Y5; end", 1, 1},
+	{"X0 -> [ or( X1 X2 ) -> out:Y1 | not( X3 ) -> out:Y2 | and( X4 X5 ) -> out:Y3 | -> out:Y4 ]", "ld X0; mps; ld X1; or X2; anb; coil out:Y1; mrd; ld X3; inv; anb; coil out:Y2; mrd; and X4; and X5; coil out:Y3; mpp; coil out:Y4; end", 2, 1},
+	// Kids within kids.
+	{"X0 -> [ -> [ -> out:Y1 | -> out:Y2 ] | -> out:Y3 ]", "ld X0; mps; mps; coil out:Y1; mpp; coil out:Y2; mpp; coil out:Y3; end", 1, 2},
+	{"X0 -> [ -> out:Y1 | -> [ -> out:Y2 | -> out:Y3 ] ]", "ld X0; mps; coil out:Y1; mpp; mps; coil out:Y2; mpp; coil out:Y3; end", 1, 1},
+	{"X0 -> [ -> out:Y1 | -> [ -> out:Y2 | -> out:Y3 ] | -> out:Y4 ]", "ld X0; mps; coil out:Y1; mrd; mps; coil out:Y2; mpp; coil out:Y3; mpp; coil out:Y4; end", 1, 2},
+	{"X0 -> out:Y0 [ X1 -> [ X2 -> out:Y2 | X3 -> out:Y3 ] ]", "ld X0; coil out:Y0; and X1; mps; and X2; coil out:Y2; mpp; and X3; coil out:Y3; end", 1, 1},
+	{"X0 -> [ X1 -> [ -> out:Y1 | or( X2 X3 ) -> out:Y2 ] | -> out:Y3 [ not( X4 ) -> [ -> out:Y4 | X5 -> out:Y5 ] ] ]", "ld X0; mps; and X1; mps; coil out:Y1; mpp; ld X2; or X3; anb; coil out:Y2; mpp; coil out:Y3; ld X4; inv; anb; mps; coil out:Y4; mpp; and X5; coil out:Y5; end", 2, 2},
+	{"X0 -> [ -> out:Y1 [ X1 -> out:Y2 ] | -> out:Y3 ]", "ld X0; mps; coil out:Y1; and X1; coil out:Y2; mpp; coil out:Y3; end", 1, 1},
+	{"X0 -> [ -> [ -> [ -> out:Y1 | -> out:Y2 ] | -> [ -> out:Y3 | -> out:Y4 ] ] | -> out:Y5 ]", "ld X0; mps; mps; mps; coil out:Y1; mpp; coil out:Y2; mpp; mps; coil out:Y3; mpp; coil out:Y4; mpp; coil out:Y5; end", 1, 3},
+}
+
 // Promises 15 and 16, of arms, told one by one.
 func TestPromise15And16Arms(t *testing.T) {
-	for _, c := range []struct {
-		rung, list  string
-		bits, forks int
-	}{
-		{"X0 -> out:Y0", "ld X0; coil out:Y0; end", 1, 0},
-		{"X0 -> out:Y2 set:M1 timer:T1,50 out:Y2", "ld X0; coil out:Y2; coil set:M1; coil timer:T1,50; coil out:Y2; end", 1, 0},
-		// One kid has no fork.
-		{"X0 -> out:Y0 [ X1 -> out:Y1 ]", "ld X0; coil out:Y0; and X1; coil out:Y1; end", 1, 0},
-		{"X0 -> out:Y0 [ X1 -> out:Y1 [ X2 -> out:Y2 ] ]", "ld X0; coil out:Y0; and X1; coil out:Y1; and X2; coil out:Y2; end", 1, 0},
-		{"X0 -> out:Y0 [ or( X1 X2 ) -> out:Y1 ]", "ld X0; coil out:Y0; ld X1; or X2; anb; coil out:Y1; end", 2, 0},
-		{"X0 -> out:Y0 [ not( X1 ) -> out:Y1 ]", "ld X0; coil out:Y0; ld X1; inv; anb; coil out:Y1; end", 2, 0},
-		{"X0 -> out:Y0 [ not( and( X1 X2 ) ) -> out:Y1 ]", "ld X0; coil out:Y0; ld X1; and X2; inv; anb; coil out:Y1; end", 2, 0},
-		// Two, three and more.
-		{"X0 -> [ X1 -> out:Y1 | X2 -> out:Y2 ]", "ld X0; mps; and X1; coil out:Y1; mpp; and X2; coil out:Y2; end", 1, 1},
-		{"X0 -> [ -> out:Y1 | -> out:Y2 ]", "ld X0; mps; coil out:Y1; mpp; coil out:Y2; end", 1, 1},
-		{"X0 -> out:Y0 [ X1 -> out:Y1 | X2 -> out:Y2 ]", "ld X0; coil out:Y0; mps; and X1; coil out:Y1; mpp; and X2; coil out:Y2; end", 1, 1},
-		{"X0 -> [ X1 -> out:Y1 | X2 -> out:Y2 | X3 -> out:Y3 ]", "ld X0; mps; and X1; coil out:Y1; mrd; and X2; coil out:Y2; mpp; and X3; coil out:Y3; end", 1, 1},
-		{"X0 -> [ -> out:Y1 | -> out:Y2 | -> out:Y3 | -> out:Y4 | -> out:Y5 ]", "ld X0; mps; coil out:Y1; mrd; coil out:Y2; mrd; coil out:Y3; mrd; coil out:Y4; mpp; coil out:Y5; end", 1, 1},
-		{"X0 -> [ or( X1 X2 ) -> out:Y1 | not( X3 ) -> out:Y2 | and( X4 X5 ) -> out:Y3 | -> out:Y4 ]", "ld X0; mps; ld X1; or X2; anb; coil out:Y1; mrd; ld X3; inv; anb; coil out:Y2; mrd; and X4; and X5; coil out:Y3; mpp; coil out:Y4; end", 2, 1},
-		// Kids within kids.
-		{"X0 -> [ -> [ -> out:Y1 | -> out:Y2 ] | -> out:Y3 ]", "ld X0; mps; mps; coil out:Y1; mpp; coil out:Y2; mpp; coil out:Y3; end", 1, 2},
-		{"X0 -> [ -> out:Y1 | -> [ -> out:Y2 | -> out:Y3 ] ]", "ld X0; mps; coil out:Y1; mpp; mps; coil out:Y2; mpp; coil out:Y3; end", 1, 1},
-		{"X0 -> [ -> out:Y1 | -> [ -> out:Y2 | -> out:Y3 ] | -> out:Y4 ]", "ld X0; mps; coil out:Y1; mrd; mps; coil out:Y2; mpp; coil out:Y3; mpp; coil out:Y4; end", 1, 2},
-		{"X0 -> out:Y0 [ X1 -> [ X2 -> out:Y2 | X3 -> out:Y3 ] ]", "ld X0; coil out:Y0; and X1; mps; and X2; coil out:Y2; mpp; and X3; coil out:Y3; end", 1, 1},
-		{"X0 -> [ X1 -> [ -> out:Y1 | or( X2 X3 ) -> out:Y2 ] | -> out:Y3 [ not( X4 ) -> [ -> out:Y4 | X5 -> out:Y5 ] ] ]", "ld X0; mps; and X1; mps; coil out:Y1; mpp; ld X2; or X3; anb; coil out:Y2; mpp; coil out:Y3; ld X4; inv; anb; mps; coil out:Y4; mpp; and X5; coil out:Y5; end", 2, 2},
-		{"X0 -> [ -> out:Y1 [ X1 -> out:Y2 ] | -> out:Y3 ]", "ld X0; mps; coil out:Y1; and X1; coil out:Y2; mpp; coil out:Y3; end", 1, 1},
-		{"X0 -> [ -> [ -> [ -> out:Y1 | -> out:Y2 ] | -> [ -> out:Y3 | -> out:Y4 ] ] | -> out:Y5 ]", "ld X0; mps; mps; mps; coil out:Y1; mpp; coil out:Y2; mpp; mps; coil out:Y3; mpp; coil out:Y4; mpp; coil out:Y5; end", 1, 3},
-	} {
+	for _, c := range wayArms {
 		wantDown(t, ladder(c.rung), c.list, c.bits, c.forks)
 	}
 	for _, c := range append(armCases, netCases...) {
